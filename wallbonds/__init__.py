@@ -1,0 +1,1 @@
+"""bondhall: walls and sites. The calls are in wallbonds.sites."""
