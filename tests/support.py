@@ -1,7 +1,12 @@
-"""What the tests share: texts of walls, and a second reading of them, written another way than the program's."""
+"""What the tests share: texts of walls and bonds, and a second telling of them, not written like the program."""
 
+import collections
+import functools
+import itertools
 import random
 import re
+
+MOST = 2 ** 63 - 1
 
 ENDS = ("free", "side", "end")
 HEAD = ("wall a", "long 12", "high 4", "left side", "right end", "reveal free")
@@ -117,3 +122,213 @@ def some_walls(how_many):
                 openings.append(opening)
                 taken |= places(opening)
         yield length, height, sorted(openings, key=lambda o: (o[1], o[0]))
+
+
+PIECES = {"S": 4, "H": 2, "T": 3, "B": 2, "C": 1}
+Bond = collections.namedtuple("Bond", "lap most makes courses")
+Wall = collections.namedtuple("Wall", "length height openings ends")
+
+
+def bond_text(bond, name="b"):
+    lines = ["bond " + name, f"lap {bond.lap}", f"most {bond.most}"]
+    lines += ["makes " + bond.makes] if bond.most else []
+    return text_of(lines + ["course " + pattern for pattern in bond.courses])
+
+
+def no_bonds():
+    """(text, line, kind) of texts of at most 4,096 bytes that are no bond's."""
+    head = ("bond b", "lap 1", "most 1", "makes S", "course S")
+    told = [((), 0, 1), (head[:4], 4, 1), (head[:3], 3, 1), (head[:3] + head[4:], 3, 1), (head + ("makes S",), 5, 1)]
+    told += [(("bond b", "lap 1", "most 0") + head[3:], 3, 1), (head[1:], 0, 1), (head[:1] + head, 1, 1)]
+    changes = {
+        0: [("bond", 1), ("bond ", 1), ("bond B", 1), ("bond b1", 1), ("bond b ", 1), ("bond  b", 1), ("Bond b", 1),
+            ("bond a b", 1), ("wall b", 1), ("bond " + "b" * 16, 2), ("", 1), ("bond `", 1), ("bond {", 1)],
+        1: [("lap", 1), ("lap ", 1), ("lap 01", 1), ("lap 12", 1), ("lap x", 1), ("lap -1", 1), ("lap 1 ", 1),
+            ("lap 0", 2), ("lap 4", 2), ("lap 9", 2), ("lap :", 1), ("lap /", 1)],
+        2: [("most", 1), ("most 00", 1), ("most 10", 1), ("most B", 1), ("most 3", 2), ("most 9", 2)],
+        3: [("makes", 1), ("makes ", 1), ("makes s", 1), ("makes S H", 1), ("makes 1", 1), ("makes @", 1),
+            ("makes [", 1), ("makes A", 3), ("makes HS", 3), ("makes SS", 3), ("makes SHTBCC", 3), ("makes SHTBCZ", 3),
+            ("makes SHBT", 3), ("makes S" * 2, 1)],
+        4: [("course", 1), ("course ", 1), ("course s", 1), ("course S ", 1), ("course S S", 1), ("Course S", 1),
+            ("course SSSSSSSSS", 2), ("course TTTTTTTTT", 2), ("course T", 3), ("course SB", 3), ("course HC", 3),
+            ("course SZ", 3), ("course SSSSSSSs", 1), ("course SSSSSSSSs", 1)],
+    }
+    for line, changed in changes.items():
+        told += [(head[:line] + (text,) + head[line + 1:], line, kind) for text, kind in changed]
+    told += [(head + ("course H",) * 8, 12, 4), (head + ("course H",) * 7 + ("course X",), 12, 3)]
+    told += [(head + ("course H",) * 7 + ("course " + "H" * 9,), 12, 2), (head + ("course H",) * 7 + ("x",), 12, 1)]
+    told = [(text_of(lines), line, kind) for lines, line, kind in told]
+    told += [(text_of(head)[:-1], 4, 1), (text_of(head) + [83], 5, 1), ([10] * 4096, 0, 1), ([0] * 4096, 0, 1)]
+    told += [(as_bytes("bond " + "b" * 4090 + "\n"), 0, 2), (text_of(head) + as_bytes("course H"), 5, 1)]
+    return told
+
+
+def some_bonds(how_many, seed=3):
+    source = random.Random(seed)
+    for _ in range(how_many):
+        most = source.choice((0, 1, 1, 2, 2))
+        makes = "".join(letter for letter in PIECES if source.random() < 0.6) or "B"
+        sizes = [source.choice((1, 1, 2, 3, 8)) for _ in range(source.randint(1, 4))]
+        patterns = ["".join(source.choices("SH", k=size)) for size in sizes]
+        yield Bond(source.choice((1, 1, 2, 2, 3)), most, makes if most else "", tuple(patterns))
+
+
+def length_of(row):
+    return sum(PIECES[letter] for letter in row)
+
+
+def cuts_of(row):
+    return sum(letter in "TBC" for letter in row)
+
+
+def rank(row):
+    return ["SHTBC".index(letter) for letter in row]
+
+
+def joints_of(row):
+    return [length_of(row[:k]) for k in range(1, len(row))]
+
+
+def keeps(row, bond, course):
+    pattern = bond.courses[course % len(bond.courses)]
+    endless = pattern * 40
+    for left, right in itertools.product(range(bond.most + 1), repeat=2):
+        made_up, middle = row[:left] + row[max(left, len(row) - right):], row[left:max(left, len(row) - right)]
+        if set(made_up) <= set(bond.makes) and middle in endless:
+            return True
+    return False
+
+
+def end_fits(letter, end, course):
+    return letter == ("SH", "HS")[end - 1][course % 2] if end else True
+
+
+def too_near(joints, others, lap):
+    return any(abs(one - other) < lap for one in joints for other in others)
+
+
+@functools.cache
+def all_rows(length):
+    if length == 0:
+        return ("",)
+    return tuple(letter + rest for letter, size in PIECES.items() if size <= length for rest in all_rows(length - size))
+
+
+@functools.cache
+def rows_keeping(bond, course, length):
+    if length <= 10:
+        return [row for row in all_rows(length) if keeps(row, bond, course)]
+    made_up = ["".join(row) for count in range(bond.most + 1) for row in itertools.product(bond.makes, repeat=count)]
+    pattern = bond.courses[course % len(bond.courses)]
+    endless = pattern * 40
+    middles = {endless[k:k + count] for k in range(len(pattern)) for count in range(17)}
+    begun = {left + middle for left in made_up for middle in middles if length_of(left + middle) <= length}
+    return sorted({row + right for row in begun for right in made_up if length_of(row + right) == length})
+
+
+def rows_of_course(bond, course, length, ends):
+    rows = rows_keeping(bond, course, length)
+    return [row for row in rows if end_fits(row[0], ends[0], course) and end_fits(row[-1], ends[1], course)]
+
+
+def filling_order(rows):
+    return sum(map(cuts_of, rows)), sum(map(len, rows)), [rank(row) for row in rows]
+
+
+@functools.cache
+def near_joints(row, lap):
+    return frozenset(joint + step for joint in joints_of(row) for step in range(1 - lap, lap))
+
+
+def first_filling(bond, panel, ends, floor):
+    """The filling told, from below, or None: of all that end in the same row only the first is carried on."""
+    place, first, length, courses = panel
+    ending = {}
+    for row in rows_of_course(bond, first, length, ends):
+        if not too_near(joints_of(row), floor, bond.lap):
+            ending[row] = (cuts_of(row), len(row), (rank(row),), (row,))
+    for course in range(first + 1, first + courses):
+        in_order = sorted(ending.items(), key=lambda pair: pair[1])
+        ending = {}
+        for row in rows_of_course(bond, course, length, ends):
+            near = near_joints(row, bond.lap)
+            below = next((order for lower, order in in_order if near.isdisjoint(near_joints(lower, 1))), None)
+            if below:
+                cuts, pieces, ranks, rows = below
+                ending[row] = (cuts + cuts_of(row), pieces + len(row), ranks + (rank(row),), rows + (row,))
+    return min(ending.values())[3] if ending else None
+
+
+def closed_places(wall):
+    return places((0, 0, wall.length, wall.height)).difference(*map(places, wall.openings))
+
+
+def panels_again(wall):
+    closed = closed_places(wall)
+    stretches = []
+    for y in range(wall.height):
+        signs = "".join("#" if (x, y) in closed else " " for x in range(wall.length))
+        stretches.append([(match.start(), len(match[0])) for match in re.finditer("#+", signs)])
+    found = []
+    for y, row in enumerate(stretches):
+        for stretch in row:
+            if y == 0 or stretch not in stretches[y - 1]:
+                courses = len(list(itertools.takewhile(lambda other: stretch in other, stretches[y:])))
+                found.append((stretch[0], y, stretch[1], courses))
+    return found
+
+
+def panel_ends(wall, panel):
+    left, right, reveal = wall.ends
+    return left if panel[0] == 0 else reveal, right if panel[0] + panel[2] == wall.length else reveal
+
+
+def drawn_floor(grid, panel):
+    """Joints of the course below, in units from the panel's left side: a piece's letter not behind an open place."""
+    x, y, length, courses = panel
+    if y == 0:
+        return []
+    below = grid[y - 1]
+    return [k - x for k in range(x, min(x + length, len(below) - 1) + 1)
+            if below[k] in PIECES and k > 0 and below[k - 1] != "."]
+
+
+def draw_row(row):
+    return "".join(letter + "-" * (PIECES[letter] - 1) for letter in row)
+
+
+def draw_again(bond, wall):
+    """The drawing of the wall filled, or the number of the first panel that can't be filled."""
+    grid = ["." * wall.length] * wall.height
+    for number, panel in enumerate(panels_again(wall)):
+        x, y, length, courses = panel
+        rows = first_filling(bond, panel, panel_ends(wall, panel), drawn_floor(grid, panel))
+        if rows is None:
+            return number
+        for k, row in enumerate(rows):
+            grid[y + k] = grid[y + k][:x] + draw_row(row) + grid[y + k][x + length:]
+    return "".join(line + "\n" for line in reversed(grid))
+
+
+def fill_answer(drawing):
+    return [0, 0, len(drawing)] + as_bytes(drawing)
+
+
+def text_of_wall(wall, name="a"):
+    return wall_text(wall.length, wall.height, wall.openings, wall.ends, name)
+
+
+def some_filled(how_many, length, height, seed=7):
+    """(bond, wall) with walls of at most this length and height, the same ones every time."""
+    source = random.Random(seed)
+    for bond in some_bonds(how_many, seed):
+        long, high = source.randint(1, length), source.randint(1, height)
+        openings, taken = [], set()
+        for _ in range(source.choice((0, 0, 1, 2, 4))):
+            x, y = source.randrange(long), source.randrange(high)
+            opening = (x, y, source.randint(1, min(4, long - x)), source.randint(1, high - y))
+            if not places(opening) & taken:
+                openings.append(opening)
+                taken |= places(opening)
+        ends = tuple(source.choice((0, 0, 1, 2)) for _ in range(3))
+        yield bond, Wall(long, high, sorted(openings, key=lambda o: (o[1], o[0])), ends)

@@ -1,13 +1,23 @@
 """The interface: names and arguments, nothing changed, nothing kept, whole numbers in one list."""
 
+import copy
 import inspect
+import itertools
 import unittest
 
-from tests.support import HEAD, text_of, wall_text
+from tests.support import HEAD, MOST, Bond, bond_text, text_of, wall_text
 from wallbonds import sites
 
-CALLS = {"wall": ["t"], "size": ["t"], "panels": ["t"]}
-TEXTS = (
+CALLS = {"wall": "t", "size": "t", "panels": "t", "where": "x y t", "fill": "b t", "counts": "b t"}
+NUMBERS = (0, 5, MOST)
+BONDS = (
+    bond_text(Bond(1, 2, "SHTBC", ("SH", "H"))),
+    bond_text(Bond(1, 0, "", ("S",))),
+    bond_text(Bond(1, 0, "", ("S",)))[:-1],
+    [],
+    [120] * 6000,
+)
+WALLS = (
     [],
     text_of(HEAD),
     text_of(HEAD)[:-1],
@@ -17,42 +27,61 @@ TEXTS = (
     [10] * 4096,
     [120] * 6000,
 )
+HANDED = {"x": NUMBERS, "y": NUMBERS, "b": BONDS, "t": WALLS}
+
+
+def all_calls():
+    """(name, arguments) of every call with every choice of what is handed in, as copies."""
+    for name, arguments in CALLS.items():
+        for handed in itertools.product(*[HANDED[argument] for argument in arguments.split()]):
+            yield name, copy.deepcopy(handed)
+
+
+def call(name, handed):
+    return getattr(sites, name)(*handed)
 
 
 class Interface(unittest.TestCase):
 
     def test_names_and_arguments(self):
         for name, arguments in CALLS.items():
-            self.assertEqual(list(inspect.signature(getattr(sites, name)).parameters), arguments)
+            self.assertEqual(list(inspect.signature(getattr(sites, name)).parameters), arguments.split())
 
     def test_what_is_handed_in_is_as_it_was(self):
-        for name in CALLS:
-            for text in TEXTS:
-                handed = list(text)
-                getattr(sites, name)(handed)
-                self.assertEqual(handed, text)
+        for name, handed in all_calls():
+            before = copy.deepcopy(handed)
+            call(name, handed)
+            self.assertEqual(handed, before)
 
     def test_the_same_answer_a_second_time(self):
-        first = {(name, k): getattr(sites, name)(list(text)) for name in CALLS for k, text in enumerate(TEXTS)}
-        for name, k in reversed(list(first)):
-            self.assertEqual(getattr(sites, name)(list(TEXTS[k])), first[name, k])
+        first = [(name, handed, call(name, handed)) for name, handed in all_calls()]
+        for name, handed, answer in reversed(first):
+            self.assertEqual(call(name, handed), answer)
 
     def test_an_answer_that_is_changed_spoils_no_other(self):
-        for name in CALLS:
-            for text in TEXTS:
-                answer = getattr(sites, name)(text)
-                kept = list(answer)
-                answer.clear()
-                self.assertEqual(getattr(sites, name)(text), kept)
+        for name, handed in all_calls():
+            answer = call(name, handed)
+            kept = list(answer)
+            answer.clear()
+            self.assertEqual(call(name, handed), kept)
 
     def test_one_list_of_whole_numbers_in_three_parts(self):
-        for name in CALLS:
-            for text in TEXTS:
-                answer = getattr(sites, name)(text)
-                self.assertIs(type(answer), list)
-                self.assertEqual({type(number) for number in answer}, {int})
-                row_end = 2 + answer[1]
-                self.assertEqual(len(answer), row_end + 1 + answer[row_end])
+        for name, handed in all_calls():
+            answer = call(name, handed)
+            self.assertIs(type(answer), list)
+            self.assertEqual({type(number) for number in answer}, {int})
+            row_end = 2 + answer[1]
+            self.assertEqual(len(answer), row_end + 1 + answer[row_end])
+
+    def test_nothing_is_changed_for_a_while_either(self):
+        class Unchanging(list):
+            def refuse(self, *arguments):
+                raise AssertionError("what was handed in is changed")
+            append = extend = insert = pop = remove = clear = sort = reverse = refuse
+            __setitem__ = __delitem__ = __iadd__ = __imul__ = refuse
+        for name, handed in all_calls():
+            guarded = [Unchanging(part) if isinstance(part, list) else part for part in handed]
+            self.assertEqual(call(name, guarded), call(name, handed))
 
 
 if __name__ == "__main__":

@@ -2,29 +2,56 @@
 
 OTHER_LINE = 1
 OUT_OF_BOUNDS = 2
+
+# Of a wall's line.
 OUT_OF_ORDER = 3
 PLACE_IN_COMMON = 4
 TOO_MANY = 5
 
+# Of a bond's line.
+WRONG_LETTER = 3
+NINTH_COURSE = 4
 
+
+# What is told is the row of numbers that stands beside the refusal's own number.
 class Refusal(Exception):
 
-    def __init__(self, number):
+    def __init__(self, number, told):
         self.number = number
+        self.told = told
 
 
 class TooLong(Refusal):
 
     def __init__(self):
-        Refusal.__init__(self, -1)
+        Refusal.__init__(self, -1, [])
 
 
-class WallFault(Refusal):
+# Most calls don't tell the line and the kind: so they aren't among what is told.
+class TextFault(Refusal):
 
     def __init__(self, line, kind):
-        Refusal.__init__(self, -6)
+        Refusal.__init__(self, -6, [])
         self.line = line
         self.kind = kind
+
+
+class Outside(Refusal):
+
+    def __init__(self):
+        Refusal.__init__(self, -1, [])
+
+
+class NotThere(Refusal):
+
+    def __init__(self):
+        Refusal.__init__(self, -3, [])
+
+
+class CannotFill(Refusal):
+
+    def __init__(self, panel):
+        Refusal.__init__(self, -3, [panel])
 
 
 # Who reads a line doesn't know its number in the whole text: who hands the lines out adds it.

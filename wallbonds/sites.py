@@ -1,7 +1,10 @@
 """The calls. Each answers one list: a number; how many numbers, and these; how many bytes, and these."""
 
-from wallbonds.refusals import Refusal, TooLong, WallFault
-from wallbonds.walls import panels_of, read_wall
+from wallbonds.bonds import read_bond
+from wallbonds.drawings import drawing_of, pieces_counted
+from wallbonds.fillings import fill_wall
+from wallbonds.refusals import Refusal, TextFault, TooLong
+from wallbonds.walls import panel_at, panels_of, read_wall
 
 MOST_BYTES = 4096
 
@@ -9,10 +12,10 @@ MOST_BYTES = 4096
 def wall(t):
     try:
         found = wall_of(t)
-    except WallFault as fault:
+    except TextFault as fault:
         return answer(fault.number, [fault.line, fault.kind], [])
-    except TooLong as refusal:
-        return answer(refusal.number, [], [])
+    except Refusal as refusal:
+        return refused(refusal)
     return answer(len(found.openings), [], [])
 
 
@@ -20,7 +23,7 @@ def size(t):
     try:
         found = wall_of(t)
     except Refusal as refusal:
-        return answer(refusal.number, [], [])
+        return refused(refusal)
     ends = [found.left, found.right, found.reveal]
     parts = [len(found.openings), len(panels_of(found))]
     return answer(0, [found.length, found.height] + ends + parts, [])
@@ -30,18 +33,55 @@ def panels(t):
     try:
         found = wall_of(t)
     except Refusal as refusal:
-        return answer(refusal.number, [], [])
+        return refused(refusal)
     row = []
     for panel in panels_of(found):
-        row.extend(list(panel))
+        row.extend([panel.place, panel.course, panel.length, panel.courses])
     return answer(0, row, [])
 
 
-# A text too long is refused for its length alone, whatever else is wrong with it: so it isn't read.
+def where(x, y, t):
+    try:
+        number = panel_at(wall_of(t), x, y)
+    except Refusal as refusal:
+        return refused(refusal)
+    return answer(number, [], [])
+
+
+def fill(b, t):
+    try:
+        refuse_long([b, t])
+        bond = read_bond(b)
+        found = read_wall(t)
+        courses = fill_wall(bond, found)
+    except Refusal as refusal:
+        return refused(refusal)
+    return answer(0, [], drawing_of(found, courses))
+
+
+def counts(b, t):
+    try:
+        refuse_long([b, t])
+        courses = fill_wall(read_bond(b), read_wall(t))
+    except Refusal as refusal:
+        return refused(refusal)
+    return answer(0, pieces_counted(courses), [])
+
+
 def wall_of(t):
-    if len(t) > MOST_BYTES:
-        raise TooLong()
+    refuse_long([t])
     return read_wall(t)
+
+
+# A text too long is refused for its length alone, whatever else is wrong with any: so it comes before all reading.
+def refuse_long(texts):
+    for text in texts:
+        if len(text) > MOST_BYTES:
+            raise TooLong()
+
+
+def refused(refusal):
+    return answer(refusal.number, refusal.told, [])
 
 
 def answer(number, row, signs):

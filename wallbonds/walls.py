@@ -1,8 +1,8 @@
 """Walls: what a wall's text tells, its stretches and its panels."""
 
-from wallbonds.refusals import LineFault, WallFault
+from wallbonds.refusals import LineFault, NotThere, Outside
 from wallbonds.refusals import OTHER_LINE, OUT_OF_BOUNDS, OUT_OF_ORDER, PLACE_IN_COMMON, TOO_MANY
-from wallbonds.texts import LINE_FEED, bytes_of, fields_behind, name_in, number_in, split_at
+from wallbonds.texts import bytes_of, field_behind, fields_behind, name_in, number_from_to, number_in, read_lines
 
 HEAD_WORDS = ("wall", "long", "high", "left", "right", "reveal")
 OPENING_WORD = "open"
@@ -50,45 +50,54 @@ class Wall:
         return any([opening.covers(place, course) for opening in self.openings])
 
 
+class Panel:
+
+    def __init__(self, place, course, length, courses):
+        self.place = place
+        self.course = course
+        self.length = length
+        self.courses = courses
+
+    def has(self, place, course):
+        in_length = self.place <= place < self.place + self.length
+        return in_length and self.course <= course < self.course + self.courses
+
+
+class WallReader:
+
+    def __init__(self):
+        self.head = []
+        self.openings = []
+
+    def has_head(self):
+        return len(self.head) == len(HEAD_WORDS)
+
+    def take(self, line):
+        if self.has_head():
+            self.openings.append(opening_in(line, self.head[1], self.head[2], self.openings))
+        else:
+            self.head.append(head_value(len(self.head), line))
+
+    def take_rest(self, rest):
+        if rest != [] or not self.has_head():
+            raise LineFault(OTHER_LINE)
+
+
 def read_wall(text):
-    parts = split_at(text, LINE_FEED)
-    head = []
-    openings = []
-    for number, line in enumerate(parts[:-1]):
-        try:
-            take_line(head, openings, line)
-        except LineFault as fault:
-            raise WallFault(number, fault.kind) from fault
-    if len(head) < len(HEAD_WORDS) or parts[-1] != []:
-        raise WallFault(len(parts) - 1, OTHER_LINE)
-    return Wall(head, openings)
-
-
-def take_line(head, openings, line):
-    if len(head) < len(HEAD_WORDS):
-        head.append(head_value(len(head), line))
-    else:
-        openings.append(opening_in(line, head[1], head[2], openings))
+    reader = WallReader()
+    read_lines(text, reader)
+    return Wall(reader.head, reader.openings)
 
 
 def head_value(number, line):
-    fields = fields_behind(HEAD_WORDS[number], line)
-    if len(fields) != 1:
-        raise LineFault(OTHER_LINE)
+    field = field_behind(HEAD_WORDS[number], line)
     if number == 0:
-        return name_in(fields[0])
+        return name_in(field)
     if number == 1:
-        return size_in(fields[0], MOST_LENGTH)
+        return number_from_to(field, 1, MOST_LENGTH)
     if number == 2:
-        return size_in(fields[0], MOST_HEIGHT)
-    return end_in(fields[0])
-
-
-def size_in(field, most):
-    number = number_in(field)
-    if not 1 <= number <= most:
-        raise LineFault(OUT_OF_BOUNDS)
-    return number
+        return number_from_to(field, 1, MOST_HEIGHT)
+    return end_in(field)
 
 
 def end_in(field):
@@ -126,14 +135,14 @@ def stretches_of(wall, course):
     return stretches
 
 
-# A panel is (first place, first course, length, courses): in this walk they come in the order of their numbers.
+# In this walk the panels come in the order of their numbers.
 def panels_of(wall):
     rows = [stretches_of(wall, course) for course in range(wall.height)]
     panels = []
     for course, row in enumerate(rows):
         for stretch in row:
             if course == 0 or stretch not in rows[course - 1]:
-                panels.append((stretch[0], course, stretch[1], courses_with(stretch, rows[course:])))
+                panels.append(Panel(stretch[0], course, stretch[1], courses_with(stretch, rows[course:])))
     return panels
 
 
@@ -142,3 +151,18 @@ def courses_with(stretch, rows):
     while count < len(rows) and stretch in rows[count]:
         count += 1
     return count
+
+
+def panel_at(wall, place, course):
+    if place >= wall.length or course >= wall.height:
+        raise Outside()
+    for number, panel in enumerate(panels_of(wall)):
+        if panel.has(place, course):
+            return number
+    raise NotThere()
+
+
+def ends_of(wall, panel):
+    left = wall.left if panel.place == 0 else wall.reveal
+    right = wall.right if panel.place + panel.length == wall.length else wall.reveal
+    return (left, right)
