@@ -332,3 +332,163 @@ def some_filled(how_many, length, height, seed=7):
                 taken |= places(opening)
         ends = tuple(source.choice((0, 0, 1, 2)) for _ in range(3))
         yield bond, Wall(long, high, sorted(openings, key=lambda o: (o[1], o[0])), ends)
+
+
+def judge_again(bond, wall, drawing):
+    """How many cut pieces a whole drawing has, or (course, place, kind) of what is wrong with one that isn't."""
+    lines_fault = first_wrong_sign(wall, drawing)
+    if lines_fault:
+        return lines_fault + (1,)
+    grid = drawing.split("\n")[-2::-1]
+    for course, line in enumerate(grid):
+        place = first_wrong_place(wall, course, line)
+        if place is not None:
+            return course, place, 2
+    for panel in panels_again(wall):
+        x, y, length, courses = panel
+        below = drawn_floor(grid, panel)
+        for course in range(y, y + courses):
+            row = re.sub(r"[^SHTBC]", "", grid[course][x:x + length])
+            left, right = panel_ends(wall, panel)
+            right_ends = end_fits(row[0], left, course) and end_fits(row[-1], right, course)
+            if not right_ends or not keeps(row, bond, course) or too_near(joints_of(row), below, bond.lap):
+                return course, x, 3
+            below = joints_of(row)
+    return cuts_of(drawing)
+
+
+def first_wrong_sign(wall, drawing):
+    course, place = wall.height - 1, 0
+    for sign in drawing + "\0":
+        if course < 0:
+            return None if sign == "\0" else (0, wall.length)
+        if place == wall.length:
+            if sign != "\n":
+                return course, place
+            course, place = course - 1, 0
+        elif sign not in "SHTBC-.":
+            return course, place
+        else:
+            place += 1
+    return None
+
+
+def first_wrong_place(wall, course, line):
+    closed = closed_places(wall)
+    x = 0
+    while x < wall.length:
+        size = 1
+        if (x, course) not in closed:
+            if line[x] != ".":
+                return x
+        elif line[x] not in PIECES:
+            return x
+        else:
+            size = PIECES[line[x]]
+            for k in range(x + 1, x + size):
+                if (k, course) not in closed or line[k] != "-":
+                    return k
+        x += size
+    return None
+
+
+def site_text(walls, corners, names="abcd"):
+    """walls: some Wall; corners: (first, left or right as 0 or 1, second, the same), by the walls' numbers."""
+    text = [byte for wall, name in zip(walls, names) for byte in text_of_wall(wall, name)]
+    sides = ("left", "right")
+    return text + text_of(f"corner {names[one]} {sides[end]} {names[two]} {sides[other]}"
+                          for one, end, two, other in corners)
+
+
+def site_again(text):
+    """(line, kind) of the first fault of a site's text, or (its walls' texts, its corners)."""
+    lines = bytes(text).decode("latin-1").split("\n")
+    lines = [line + "\n" for line in lines[:-1]] + lines[-1:] * bool(lines[-1])
+    end = next((number for number, line in enumerate(lines) if line.startswith("corner ")), len(lines))
+    firsts = [number for number in range(end) if number == 0 or lines[number].startswith("wall ")]
+    if not firsts:
+        return 0, 1
+    names, texts = [], []
+    for first, last in zip(firsts, firsts[1:] + [end]):
+        texts.append("".join(lines[first:last]))
+        fault = first_fault(as_bytes(texts[-1]))
+        if fault is None or fault[0] > 0:
+            names.append(lines[first][5:-1])
+            if names[-1] in names[:-1]:
+                return first, 6
+            if len(names) == 5:
+                return first, 7
+        if fault:
+            return first + fault[0], fault[1]
+    corners = []
+    for number in range(end, len(lines)):
+        kind = corner_kind(lines[number], names, texts, corners)
+        if kind:
+            return number, kind
+    return texts, corners
+
+
+def corner_kind(line, names, texts, corners):
+    match = re.fullmatch(r"corner ([a-z]+) (left|right) ([a-z]+) (left|right)\n", line)
+    if not match or match[1] not in names or match[3] not in names or names.index(match[1]) >= names.index(match[3]):
+        return 8
+    one, two = names.index(match[1]), names.index(match[3])
+    ends = [(one, match[2]), (two, match[4])]
+    if corners and ends[0] <= corners[-1][0]:
+        return 9
+    taken = [end for corner in corners for end in corner]
+    if set(ends) & set(taken):
+        return 10
+    corners.append(ends)
+    words = [re.search(rf"\n{side} (\w+)\n", texts[number])[1] for number, side in ends]
+    highs = [re.search(r"\nhigh (\d+)\n", texts[number])[1] for number, side in ends]
+    if len(set(highs)) > 1 or sorted(words) != ["end", "side"]:
+        return 11
+    for number, side in ends:
+        length = int(re.search(r"\nlong (\d+)\n", texts[number])[1])
+        place = 0 if side == "left" else length - 1
+        openings = re.findall(r"\nopen (\d+) \d+ (\d+) \d+(?=\n)", texts[number])
+        if any(int(x) <= place < int(x) + int(w) for x, w in openings):
+            return 11
+        if length < 5 and {(number, "left"), (number, "right")} <= {end for corner in corners for end in corner}:
+            return 11
+    return 0
+
+
+def some_sites(how_many, length=14, height=4, seed=31):
+    """(walls, corners): sites of all sizes, the same ones every time."""
+    source = random.Random(seed)
+    for _ in range(how_many):
+        count = source.randint(1, 4)
+        high = source.randint(1, height)
+        corners, loose = [], [(wall, end) for wall in range(count) for end in (0, 1)]
+        source.shuffle(loose)
+        ends = {end: source.randrange(3) for end in loose}
+        while len(loose) > 1 and source.random() < 0.85:
+            one = loose.pop()
+            other = next((end for end in loose if end[0] != one[0]), None)
+            if other:
+                loose.remove(other)
+                corners.append(min(one, other) + max(one, other))
+                ends[one] = source.choice((1, 2))
+                ends[other] = 3 - ends[one]
+        walls = [a_wall_of_a_site(source, number, high, length, ends, corners) for number in range(count)]
+        yield walls, sorted(corners)
+
+
+def a_wall_of_a_site(source, number, high, length, ends, corners):
+    cornered = [end for corner in corners for wall, end in (corner[:2], corner[2:]) if wall == number]
+    if not cornered:
+        high = source.randint(1, high)
+    long = source.randint(5 if len(cornered) == 2 else 4, length)
+    first, last = (1 if 0 in cornered else 0), (long - 1 if 1 in cornered else long)
+    openings, taken = [], set()
+    for _ in range(source.choice((0, 0, 1, 2))):
+        if first < last:
+            x, y = source.randrange(first, last), source.randrange(high)
+            opening = (x, y, source.randint(1, min(4, last - x)), source.randint(1, high - y))
+            if not places(opening) & taken:
+                openings.append(opening)
+                taken |= places(opening)
+    words = ends[number, 0], ends[number, 1], source.choice((0, 0, 1, 2))
+    return Wall(long, high, sorted(openings, key=lambda o: (o[1], o[0])), words)

@@ -5,10 +5,11 @@ import inspect
 import itertools
 import unittest
 
-from tests.support import HEAD, MOST, Bond, bond_text, text_of, wall_text
+from tests.support import HEAD, MOST, Bond, Wall, as_bytes, bond_text, site_text, text_of, wall_text
 from wallbonds import sites
 
-CALLS = {"wall": "t", "size": "t", "panels": "t", "where": "x y t", "fill": "b t", "counts": "b t"}
+CALLS = {"wall": "t", "size": "t", "panels": "t", "where": "x y t", "fill": "b t", "counts": "b t", "check": "b t d",
+         "site": "u", "sizes": "u"}
 NUMBERS = (0, 5, MOST)
 BONDS = (
     bond_text(Bond(1, 2, "SHTBC", ("SH", "H"))),
@@ -27,7 +28,22 @@ WALLS = (
     [10] * 4096,
     [120] * 6000,
 )
-HANDED = {"x": NUMBERS, "y": NUMBERS, "b": BONDS, "t": WALLS}
+DRAWINGS = (
+    [],
+    as_bytes("S---S---S---\n" * 4),
+    as_bytes("............\n" * 4),
+    as_bytes("H-S---H-H-H-\nS---H-S---H-\nH-S---H-S---\nS---H-S---H-\n"),
+    [120] * 6000,
+)
+SITES = (
+    [],
+    text_of(HEAD),
+    site_text([Wall(8, 2, [], (1, 2, 0))] * 3, [(0, 0, 1, 1), (0, 1, 1, 0)]),
+    site_text([Wall(8, 2, [(4, 0, 2, 1)], (1, 2, 0))] * 2, [(0, 0, 1, 0)]),
+    site_text([Wall(3, 2, [], (1, 2, 0))] * 2, [(0, 0, 1, 1)]),
+    [120] * 6000,
+)
+HANDED = {"x": NUMBERS, "y": NUMBERS, "b": BONDS, "t": WALLS, "d": DRAWINGS, "u": SITES}
 
 
 def all_calls():

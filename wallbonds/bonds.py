@@ -1,7 +1,7 @@
 """Bonds: what a bond's text tells, and which rows keep a course."""
 
 from wallbonds.refusals import LineFault, NINTH_COURSE, OTHER_LINE, OUT_OF_BOUNDS, WRONG_LETTER
-from wallbonds.rows import END, LENGTHS, LETTERS, SIDE, length_of
+from wallbonds.rows import BRICK_END, BRICK_SIDE, LENGTHS, LETTERS, length_of
 from wallbonds.texts import bytes_of, capitals_in, digit_from_to, field_behind, name_in, read_lines
 
 MOST_LAP = 3
@@ -25,24 +25,24 @@ class Bond:
 class BondReader:
 
     def __init__(self):
-        self.lines = 0
+        self.taken = 0
         self.lap = 0
         self.most = 0
         self.makes = ()
         self.patterns = []
 
     def take(self, line):
-        if self.lines == 0:
+        if self.taken == 0:
             name_in(field_behind("bond", line))
-        elif self.lines == 1:
+        elif self.taken == 1:
             self.lap = digit_from_to(field_behind("lap", line), 1, MOST_LAP)
-        elif self.lines == 2:
+        elif self.taken == 2:
             self.most = digit_from_to(field_behind("most", line), 0, MOST_MOST)
-        elif self.lines == 3 and self.most > 0:
+        elif self.taken == 3 and self.most > 0:
             self.makes = makes_in(field_behind("makes", line))
         else:
             self.take_course(field_behind("course", line))
-        self.lines += 1
+        self.taken += 1
 
     def take_course(self, field):
         pattern = pattern_in(field)
@@ -73,7 +73,7 @@ def pattern_in(field):
     if len(capitals_in(field)) > MOST_PATTERN:
         raise LineFault(OUT_OF_BOUNDS)
     pieces = pieces_in(field)
-    if not all([piece in (SIDE, END) for piece in pieces]):
+    if not all([piece in (BRICK_SIDE, BRICK_END) for piece in pieces]):
         raise LineFault(WRONG_LETTER)
     return pieces
 
@@ -83,6 +83,24 @@ def pieces_in(field):
     if not all([byte in letters for byte in field]):
         raise LineFault(WRONG_LETTER)
     return tuple([letters.index(byte) for byte in field])
+
+
+def keeps_course(bond, row, course):
+    for left in range(min(bond.most, len(row)) + 1):
+        for right in range(min(bond.most, len(row) - left) + 1):
+            end = len(row) - right
+            made_up = all([piece in bond.makes for piece in row[:left] + row[end:]])
+            if made_up and repeats(row[left:end], bond.pattern_of(course)):
+                return True
+    return False
+
+
+def repeats(row, pattern):
+    return any([row == repeated(pattern, start, len(row)) for start in range(len(pattern))])
+
+
+def repeated(pattern, start, count):
+    return tuple([pattern[(start + step) % len(pattern)] for step in range(count)])
 
 
 # The rows of a length that keep the course: some of them more than once.

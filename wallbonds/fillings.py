@@ -6,9 +6,7 @@ A course of a wall filled is a list of what lies in it from left to right: pairs
 from wallbonds.bonds import rows_keeping
 from wallbonds.refusals import CannotFill
 from wallbonds.rows import LENGTHS, break_joint, cuts_in, joints_of, places_in, places_near
-from wallbonds.walls import ends_of, panels_of
-
-FREE = 0
+from wallbonds.walls import FREE, ends_of, panels_of
 
 
 # A row, and upon it the first of all piles that it can bear: so cuts and pieces are those of both.

@@ -12,6 +12,19 @@ TOO_MANY = 5
 WRONG_LETTER = 3
 NINTH_COURSE = 4
 
+# Of a site's line, beside those of a wall's.
+NAME_TAKEN = 6
+FIFTH_WALL = 7
+NO_CORNER = 8
+CORNER_OUT_OF_ORDER = 9
+END_TAKEN = 10
+ENDS_APART = 11
+
+# Of a drawing.
+NOT_THE_LINES = 1
+NOT_THE_PIECES = 2
+NO_FILLING = 3
+
 
 # What is told is the row of numbers that stands beside the refusal's own number.
 class Refusal(Exception):
@@ -52,6 +65,12 @@ class CannotFill(Refusal):
 
     def __init__(self, panel):
         Refusal.__init__(self, -3, [panel])
+
+
+class DrawingFault(Refusal):
+
+    def __init__(self, course, place, kind):
+        Refusal.__init__(self, -5, [course, place, kind])
 
 
 # Who reads a line doesn't know its number in the whole text: who hands the lines out adds it.

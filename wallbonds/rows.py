@@ -6,8 +6,8 @@ Places are kept as the bits of one number: bit x stands for place x.
 
 LETTERS = "SHTBC"
 LENGTHS = (4, 2, 3, 2, 1)
-SIDE = 0
-END = 1
+BRICK_SIDE = 0
+BRICK_END = 1
 FIRST_CUT = 2
 
 

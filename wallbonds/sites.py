@@ -1,6 +1,8 @@
 """The calls. Each answers one list: a number; how many numbers, and these; how many bytes, and these."""
 
 from wallbonds.bonds import read_bond
+from wallbonds.checks import cuts_drawn
+from wallbonds.corners import parts_of, read_site, rings_in
 from wallbonds.drawings import drawing_of, pieces_counted
 from wallbonds.fillings import fill_wall
 from wallbonds.refusals import Refusal, TextFault, TooLong
@@ -13,7 +15,7 @@ def wall(t):
     try:
         found = wall_of(t)
     except TextFault as fault:
-        return answer(fault.number, [fault.line, fault.kind], [])
+        return refused_with_line(fault)
     except Refusal as refusal:
         return refused(refusal)
     return answer(len(found.openings), [], [])
@@ -68,20 +70,58 @@ def counts(b, t):
     return answer(0, pieces_counted(courses), [])
 
 
+def check(b, t, d):
+    try:
+        refuse_long([b, t, d])
+        cuts = cuts_drawn(read_bond(b), read_wall(t), d)
+    except Refusal as refusal:
+        return refused(refusal)
+    return answer(cuts, [], [])
+
+
+def site(u):
+    try:
+        found = site_of(u)
+    except TextFault as fault:
+        return refused_with_line(fault)
+    except Refusal as refusal:
+        return refused(refusal)
+    return answer(len(found.walls), [], [])
+
+
+def sizes(u):
+    try:
+        found = site_of(u)
+    except Refusal as refusal:
+        return refused(refusal)
+    parts = parts_of(found)
+    row = [len(found.walls), len(found.corners), len(set(parts)), rings_in(found, parts)]
+    return answer(0, row, [])
+
+
 def wall_of(t):
     refuse_long([t])
     return read_wall(t)
 
 
+def site_of(u):
+    refuse_long([u])
+    return read_site(u)
+
+
 # A text too long is refused for its length alone, whatever else is wrong with any: so it comes before all reading.
-def refuse_long(texts):
-    for text in texts:
-        if len(text) > MOST_BYTES:
+def refuse_long(rows):
+    for row in rows:
+        if len(row) > MOST_BYTES:
             raise TooLong()
 
 
 def refused(refusal):
     return answer(refusal.number, refusal.told, [])
+
+
+def refused_with_line(fault):
+    return answer(fault.number, [fault.line, fault.kind], [])
 
 
 def answer(number, row, signs):

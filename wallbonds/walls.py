@@ -7,6 +7,9 @@ from wallbonds.texts import bytes_of, field_behind, fields_behind, name_in, numb
 HEAD_WORDS = ("wall", "long", "high", "left", "right", "reveal")
 OPENING_WORD = "open"
 END_WORDS = ("free", "side", "end")
+FREE = 0
+SIDE = 1
+END = 2
 MOST_LENGTH = 32
 MOST_HEIGHT = 8
 MOST_OPENINGS = 8
@@ -66,6 +69,7 @@ class Panel:
 class WallReader:
 
     def __init__(self):
+        self.lines = []
         self.head = []
         self.openings = []
 
@@ -77,6 +81,7 @@ class WallReader:
             self.openings.append(opening_in(line, self.head[1], self.head[2], self.openings))
         else:
             self.head.append(head_value(len(self.head), line))
+        self.lines.append(line)
 
     def take_rest(self, rest):
         if rest != [] or not self.has_head():
