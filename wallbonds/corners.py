@@ -2,7 +2,7 @@
 
 from wallbonds.refusals import CORNER_OUT_OF_ORDER, ENDS_APART, END_TAKEN, FIFTH_WALL, LineFault, NAME_TAKEN
 from wallbonds.refusals import NO_CORNER, OTHER_LINE
-from wallbonds.texts import BLANK, bytes_of, read_lines, split_at
+from wallbonds.texts import BLANK, bytes_of, lines_joined, read_lines, split_at
 from wallbonds.walls import END, SIDE, Wall, WallReader
 
 WALL_START = "wall "
@@ -24,8 +24,9 @@ class Corner:
 
 class Site:
 
-    def __init__(self, walls, corners):
+    def __init__(self, walls, texts, corners):
         self.walls = walls
+        self.texts = texts
         self.corners = corners
 
 
@@ -75,7 +76,8 @@ class SiteReader:
 def read_site(text):
     reader = SiteReader()
     read_lines(text, reader)
-    return Site(reader.walls_read(), reader.corners)
+    texts = [lines_joined(wall_reader.lines) for wall_reader in reader.readers]
+    return Site(reader.walls_read(), texts, reader.corners)
 
 
 def begins_with(line, start):

@@ -1,18 +1,14 @@
 """Drawings of walls filled."""
 
 from wallbonds.rows import LENGTHS, LETTERS
-from wallbonds.texts import LINE_FEED
+from wallbonds.texts import lines_joined
 
 DASH = 45
 DOT = 46
 
 
 def drawing_of(wall, courses):
-    drawing = []
-    for course in reversed(courses):
-        drawing.extend(line_of(course, wall.length))
-        drawing.append(LINE_FEED)
-    return drawing
+    return lines_joined([line_of(course, wall.length) for course in reversed(courses)])
 
 
 def line_of(course, length):

@@ -1,10 +1,10 @@
-"""The filling told: of a panel, and of a wall panel by panel.
+"""The filling told: of a panel, of a wall panel by panel, and of walls one after another.
 
 A course of a wall filled is a list of what lies in it from left to right: pairs of first place and piece.
 """
 
 from wallbonds.bonds import rows_keeping
-from wallbonds.refusals import CannotFill
+from wallbonds.refusals import CannotFillPanel, CannotFillWall
 from wallbonds.rows import LENGTHS, break_joint, cuts_in, joints_of, places_in, places_near
 from wallbonds.walls import FREE, ends_of, panels_of
 
@@ -23,12 +23,22 @@ class Pile:
             self.pieces += above.pieces
 
 
+def fill_walls(bond, walls):
+    filled = []
+    for number, wall in enumerate(walls):
+        try:
+            filled.append(fill_wall(bond, wall))
+        except CannotFillPanel as refusal:
+            raise CannotFillWall(number, refusal.panel) from refusal
+    return filled
+
+
 def fill_wall(bond, wall):
     courses = [[] for course in range(wall.height)]
     for number, panel in enumerate(panels_of(wall)):
         rows = filling_told(bond, panel, ends_of(wall, panel), floor_of(wall, panel, courses))
         if rows == []:
-            raise CannotFill(number)
+            raise CannotFillPanel(number)
         for step, row in enumerate(rows):
             courses[panel.course + step].extend(row_laid(row, panel.place))
     # Panels side by side may begin in other courses, so their pieces may have come from right to left.

@@ -61,10 +61,17 @@ class NotThere(Refusal):
         Refusal.__init__(self, -3, [])
 
 
-class CannotFill(Refusal):
+class CannotFillPanel(Refusal):
 
     def __init__(self, panel):
         Refusal.__init__(self, -3, [panel])
+        self.panel = panel
+
+
+class CannotFillWall(Refusal):
+
+    def __init__(self, wall, panel):
+        Refusal.__init__(self, -3, [wall, panel])
 
 
 class DrawingFault(Refusal):

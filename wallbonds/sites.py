@@ -4,8 +4,8 @@ from wallbonds.bonds import read_bond
 from wallbonds.checks import cuts_drawn
 from wallbonds.corners import parts_of, read_site, rings_in
 from wallbonds.drawings import drawing_of, pieces_counted
-from wallbonds.fillings import fill_wall
-from wallbonds.refusals import Refusal, TextFault, TooLong
+from wallbonds.fillings import fill_wall, fill_walls
+from wallbonds.refusals import NotThere, Refusal, TextFault, TooLong
 from wallbonds.walls import panel_at, panels_of, read_wall
 
 MOST_BYTES = 4096
@@ -99,6 +99,36 @@ def sizes(u):
     return answer(0, row, [])
 
 
+def text(i, u):
+    try:
+        found = one_of(site_of(u).texts, i)
+    except Refusal as refusal:
+        return refused(refusal)
+    return answer(0, [], found)
+
+
+def corner(i, u):
+    try:
+        found = one_of(site_of(u).corners, i)
+    except Refusal as refusal:
+        return refused(refusal)
+    return answer(0, list(found.first) + list(found.second), [])
+
+
+def fills(b, u):
+    try:
+        refuse_long([b, u])
+        bond = read_bond(b)
+        walls = read_site(u).walls
+        filled = fill_walls(bond, walls)
+    except Refusal as refusal:
+        return refused(refusal)
+    drawings = []
+    for found, courses in zip(walls, filled):
+        drawings.extend(drawing_of(found, courses))
+    return answer(0, [], drawings)
+
+
 def wall_of(t):
     refuse_long([t])
     return read_wall(t)
@@ -107,6 +137,12 @@ def wall_of(t):
 def site_of(u):
     refuse_long([u])
     return read_site(u)
+
+
+def one_of(things, number):
+    if number >= len(things):
+        raise NotThere()
+    return things[number]
 
 
 # A text too long is refused for its length alone, whatever else is wrong with any: so it comes before all reading.

@@ -29,6 +29,14 @@ def split_at(row, sign):
     return parts
 
 
+def lines_joined(lines):
+    text = []
+    for line in lines:
+        text.extend(line)
+        text.append(LINE_FEED)
+    return text
+
+
 # A reader takes line by line what the text tells, and then what stands behind the last line feed.
 def read_lines(text, reader):
     parts = split_at(text, LINE_FEED)
