@@ -492,3 +492,74 @@ def a_wall_of_a_site(source, number, high, length, ends, corners):
                 taken |= places(opening)
     words = ends[number, 0], ends[number, 1], source.choice((0, 0, 1, 2))
     return Wall(long, high, sorted(openings, key=lambda o: (o[1], o[0])), words)
+
+
+def bricks_again(bond, walls, corners):
+    """Bricks in the order of their numbers, as (letter, course, faces), faces being sets of (wall, x, y) in a list."""
+    grids = [draw_again(bond, wall).split("\n")[-2::-1] for wall in walls]
+    pieces = [(course, number, match.start(), match[0]) for number, grid in enumerate(grids)
+              for course, line in enumerate(grid) for match in re.finditer("[SHTBC]-*", line)]
+    bricks = []
+    for course, number, place, drawn in sorted(pieces):
+        face = {(number, x, course) for x in range(place, place + len(drawn))}
+        corner = next((corner for corner in corners if corner_units(walls, corner, course) & face), None)
+        if corner is None:
+            bricks.append((drawn[0], course, [face]))
+        elif number == corner[0]:
+            bricks.append(("S", course, [face]))
+        else:
+            units = corner_units(walls, corner, course)
+            next(brick for brick in bricks if brick[2][0] & units)[2].append(face)
+    return bricks
+
+
+def corner_units(walls, corner, course):
+    return {(wall, 0 if end == 0 else walls[wall].length - 1, course) for wall, end in (corner[:2], corner[2:])}
+
+
+def units_below(brick):
+    letter, course, faces = brick
+    return {(wall, x, y - 1) for face in faces for wall, x, y in face if y > 0}
+
+
+@functools.cache
+def some_filled_sites(how_many, seed=91):
+    """(bond, walls, corners) of sites that can be filled: of four three with corners, one of these with openings."""
+    bonds = [Bond(1, 2, "SHTBC", ("SH", "HS")), Bond(1, 2, "SHTC", ("S", "H")), Bond(1, 2, "HTBC", ("SSH",))] * 20
+    bonds += [bond for bond in some_bonds(100, seed) if bond.lap == 1 and bond.most > 0]
+    random.Random(seed).shuffle(bonds)
+    found = []
+    for bond, (walls, corners) in zip(itertools.cycle(bonds), some_sites(how_many * 100, seed=seed)):
+        cornered = corners and walls[corners[0][0]].height > 1
+        wanted = (True, cornered, cornered, cornered and any(wall.openings for wall in walls))[len(found) % 4]
+        if wanted and not any(isinstance(draw_again(bond, wall), int) for wall in walls):
+            found.append((bond, walls, corners))
+        if len(found) == how_many:
+            return found
+    raise AssertionError("too few sites can be filled")
+
+
+# Two walls with a corner; the same with an opening below the corner's brick in the second wall alone; two in a ring.
+BOND = Bond(1, 2, "SHTBC", ("SH",))
+JOINED = [Wall(10, 2, [], (1, 2, 0)), Wall(6, 2, [], (0, 2, 0))], [(0, 0, 1, 1)]
+OPENED = [Wall(10, 2, [], (1, 0, 0)), Wall(8, 2, [(4, 0, 2, 1)], (0, 2, 0))], [(0, 0, 1, 1)]
+RING = [Wall(6, 2, [], (1, 2, 0))] * 2, [(0, 0, 1, 1), (0, 1, 1, 0)]
+
+
+def not_filled_sites():
+    """(bond's text, site's text, wall, panel) of sites that can't be filled: the first such wall and panel."""
+    plain = bond_text(Bond(1, 0, "", ("SH",)))
+    one, other = Wall(3, 1, [], (0, 0, 0)), Wall(9, 2, [(4, 0, 2, 1)], (0, 0, 0))
+    whole = Wall(6, 2, [], (1, 2, 0))
+    return [
+        (plain, site_text([one], []), 0, 0),
+        (plain, site_text([whole, one], []), 1, 0),
+        (plain, site_text([whole, whole, other, one], [(0, 0, 1, 1)]), 2, 1),
+        (plain, site_text([whole, whole, whole, other], []), 3, 1),
+    ]
+
+
+def no_sites():
+    """Texts of at most 4,096 bytes that are no site's."""
+    right = site_text(*RING)
+    return no_walls() + [right[:-1], right + right, right + [120], right + text_of(["corner a left b right"])]

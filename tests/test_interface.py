@@ -9,7 +9,8 @@ from tests.support import HEAD, MOST, Bond, Wall, as_bytes, bond_text, site_text
 from wallbonds import sites
 
 CALLS = {"wall": "t", "size": "t", "panels": "t", "where": "x y t", "fill": "b t", "counts": "b t", "check": "b t d",
-         "site": "u", "sizes": "u", "text": "i u", "corner": "i u", "fills": "b u"}
+         "site": "u", "sizes": "u", "text": "i u", "corner": "i u", "fills": "b u",
+         "bricks": "b u", "brick": "i b u", "which": "wall x y b u"}
 NUMBERS = (0, 5, MOST)
 BONDS = (
     bond_text(Bond(1, 2, "SHTBC", ("SH", "H"))),
@@ -43,7 +44,7 @@ SITES = (
     site_text([Wall(3, 2, [], (1, 2, 0))] * 2, [(0, 0, 1, 1)]),
     [120] * 6000,
 )
-HANDED = {"i": NUMBERS, "x": NUMBERS, "y": NUMBERS, "b": BONDS, "t": WALLS, "d": DRAWINGS, "u": SITES}
+HANDED = {"i": NUMBERS, "wall": (0, MOST), "x": (0, MOST), "y": (0, MOST), "b": BONDS, "t": WALLS, "d": DRAWINGS, "u": SITES}
 
 
 def all_calls():

@@ -1,6 +1,7 @@
 """The calls. Each answers one list: a number; how many numbers, and these; how many bytes, and these."""
 
 from wallbonds.bonds import read_bond
+from wallbonds.bricks import bricks_counted, lay_bricks, spans
 from wallbonds.checks import cuts_drawn
 from wallbonds.corners import parts_of, read_site, rings_in
 from wallbonds.drawings import drawing_of, pieces_counted
@@ -129,6 +130,36 @@ def fills(b, u):
     return answer(0, [], drawings)
 
 
+def bricks(b, u):
+    try:
+        found = masonry_of(b, u)
+    except Refusal as refusal:
+        return refused(refusal)
+    return answer(len(found.bricks), bricks_counted(found), [])
+
+
+def brick(i, b, u):
+    try:
+        masonry = masonry_of(b, u)
+        found = one_of(masonry.bricks, i)
+    except Refusal as refusal:
+        return refused(refusal)
+    face = found.faces[0]
+    other = found.other_face()
+    spanning = 1 if spans(masonry, found) else 0
+    return answer(0, [found.piece, found.course, face[0], face[1], other[0], other[1], spanning], [])
+
+
+def which(wall, x, y, b, u):
+    try:
+        numbers = masonry_of(b, u).numbers
+        if (wall, y, x) not in numbers:
+            raise NotThere()
+    except Refusal as refusal:
+        return refused(refusal)
+    return answer(numbers[(wall, y, x)], [], [])
+
+
 def wall_of(t):
     refuse_long([t])
     return read_wall(t)
@@ -137,6 +168,13 @@ def wall_of(t):
 def site_of(u):
     refuse_long([u])
     return read_site(u)
+
+
+def masonry_of(b, u):
+    refuse_long([b, u])
+    bond = read_bond(b)
+    found = read_site(u)
+    return lay_bricks(found, fill_walls(bond, found.walls))
 
 
 def one_of(things, number):
