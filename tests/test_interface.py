@@ -10,8 +10,7 @@ from wallbonds import sites
 
 CALLS = {"wall": "t", "size": "t", "panels": "t", "where": "x y t", "fill": "b t", "counts": "b t", "check": "b t d",
          "site": "u", "sizes": "u", "text": "i u", "corner": "i u", "fills": "b u",
-         "bricks": "b u", "brick": "i b u", "which": "wall x y b u"}
-NUMBERS = (0, 5, MOST)
+         "bricks": "b u", "brick": "i b u", "which": "wall x y b u", "on": "i b u"}
 BONDS = (
     bond_text(Bond(1, 2, "SHTBC", ("SH", "H"))),
     bond_text(Bond(1, 0, "", ("S",))),
@@ -44,7 +43,8 @@ SITES = (
     site_text([Wall(3, 2, [], (1, 2, 0))] * 2, [(0, 0, 1, 1)]),
     [120] * 6000,
 )
-HANDED = {"i": NUMBERS, "wall": (0, MOST), "x": (0, MOST), "y": (0, MOST), "b": BONDS, "t": WALLS, "d": DRAWINGS, "u": SITES}
+HANDED = {"i": (0, 5, MOST), "wall": (0, MOST), "x": (0, 5, MOST), "y": (0, MOST), "b": BONDS, "t": WALLS,
+          "d": DRAWINGS, "u": SITES}
 
 
 def all_calls():

@@ -102,6 +102,71 @@ class Language(unittest.TestCase):
             if isinstance(node, ast.Call) and isinstance(node.func, ast.Attribute):
                 self.assertIn(node.func.attr, own | OWN_METHODS, where)
 
+    def test_no_name_is_a_method_here_and_a_value_there(self):
+        methods = {method.name for where, node in nodes() if isinstance(node, ast.ClassDef)
+                   for method in node.body if isinstance(method, ast.FunctionDef)}
+        values = {node.attr for where, node in nodes() if isinstance(node, ast.Attribute)
+                  and isinstance(node.ctx, ast.Store)}
+        self.assertEqual(methods & values, set())
+        for name in values:
+            self.assertFalse(any(hasattr(value, name) for value in ("", 0, [], {}, b"")), name)
+
+    def test_no_two_files_draw_from_one_another(self):
+        drawn = {path.stem: {node.module.split(".")[1] for node in tree.body if isinstance(node, ast.ImportFrom)}
+                 for path, tree in trees()}
+        while drawn:
+            last = [name for name, sources in drawn.items() if not sources & set(drawn)]
+            self.assertNotEqual(last, [])
+            drawn = {name: sources for name, sources in drawn.items() if name not in last}
+
+    def test_names_are_drawn_from_the_file_that_defines_them(self):
+        binding = (ast.FunctionDef, ast.ClassDef, ast.Assign)
+        defined = {path.stem: {getattr(node, "name", None) or node.targets[0].id for node in tree.body
+                               if isinstance(node, binding)} for path, tree in trees()}
+        for where, node in nodes():
+            if isinstance(node, ast.ImportFrom):
+                self.assertLessEqual({alias.name for alias in node.names}, defined[node.module.split(".")[1]], where)
+
+    def test_what_is_drawn_is_used_and_not_named_again(self):
+        for path, tree in trees():
+            drawn = {alias.name for node in tree.body if isinstance(node, ast.ImportFrom) for alias in node.names}
+            classes = {node.name for node in tree.body if isinstance(node, ast.ClassDef)}
+            used = {node.id for node in ast.walk(tree) if isinstance(node, ast.Name)}
+            self.assertLessEqual(drawn, used, path.name)
+            local = {node.arg for node in ast.walk(tree) if isinstance(node, ast.arg)}
+            local |= {part.id for function in ast.walk(tree) if isinstance(function, ast.FunctionDef)
+                      for part in ast.walk(function) if isinstance(part, ast.Name) and isinstance(part.ctx, ast.Store)}
+            self.assertEqual(local & (drawn | classes), set(), path.name)
+
+    def test_is_stands_beside_none(self):
+        for where, node in nodes():
+            if isinstance(node, ast.Compare) and any(isinstance(sign, (ast.Is, ast.IsNot)) for sign in node.ops):
+                self.assertIsInstance(node.comparators[0], ast.Constant, where)
+
+    def test_walks_and_sets_stand_where_they_may(self):
+        walkers = ("list", "tuple", "dict", "sorted", "sum", "any", "all", "enumerate", "zip", "len")
+        walks = {"zip", "enumerate", "reversed", "range", "items", "keys", "values"}
+        for path, tree in trees():
+            right = set()
+            for node in ast.walk(tree):
+                if isinstance(node, (ast.For, ast.comprehension)):
+                    right.add(node.iter)
+                elif isinstance(node, ast.Call) and isinstance(node.func, ast.Name) and node.args:
+                    if node.func.id in walkers:
+                        right.add(node.args[0])
+            for node in ast.walk(tree):
+                if isinstance(node, ast.Call) and node not in right:
+                    name = getattr(node.func, "id", None) or getattr(node.func, "attr", None)
+                    self.assertNotIn(name, walks | {"set"}, f"{path.name}:{node.lineno}")
+
+    def test_errors_are_the_program_s_own(self):
+        own = {node.name for where, node in nodes() if isinstance(node, ast.ClassDef)}
+        for where, node in nodes():
+            if isinstance(node, ast.ExceptHandler):
+                self.assertIn(node.type.id, own, where)
+            if isinstance(node, ast.Raise):
+                self.assertIn(node.exc.func.id, own, where)
+
 
 if __name__ == "__main__":
     unittest.main()

@@ -1,9 +1,10 @@
-"""Bricks of a site filled: their numbers, where they show, what they span.
+"""Bricks of a site filled: their numbers, where they show, what they span and what they lie on.
 
 A unit of a site is a wall's number, a course and a place.
 """
 
 from wallbonds.corners import end_place
+from wallbonds.refusals import NotThere
 from wallbonds.rows import BRICK_SIDE, LENGTHS, LETTERS
 
 
@@ -77,6 +78,12 @@ def corner_brick(masonry, course, other):
     return masonry.add_brick(BRICK_SIDE, course)
 
 
+def number_at(masonry, unit):
+    if unit not in masonry.numbers:
+        raise NotThere()
+    return masonry.numbers[unit]
+
+
 def units_of_face(face, course):
     return [(face[0], course, place) for place in range(face[1], face[1] + face[2])]
 
@@ -91,6 +98,10 @@ def units_below(brick):
 
 def spans(masonry, brick):
     return any([unit not in masonry.numbers for unit in units_below(brick)])
+
+
+def numbers_below(masonry, brick):
+    return sorted(set([masonry.numbers[unit] for unit in units_below(brick) if unit in masonry.numbers]))
 
 
 def bricks_counted(masonry):

@@ -112,17 +112,17 @@ def end_fits(piece, course, end):
     return end == FREE or piece == (course + end - 1) % 2
 
 
-# Sets of piles are kept as bits, the first pile's lowest: so the lowest bit that's left is the first pile borne.
+# Sets of piles are kept as bits, the first pile's lowest: so the lowest bit of those borne is the first of them.
 def piles_under(piles, rows, lap):
     ordered = sorted(piles, key=order_of)
     with_joint = piles_by_joint(ordered)
     found = []
     for joints in rows:
-        left = (1 << len(ordered)) - 1
+        borne = (1 << len(ordered)) - 1
         for place in places_in(places_near(joints, lap)):
-            left = left & ~with_joint.get(place, 0)
-        if left != 0:
-            found.append(Pile(rows[joints], joints, ordered[lowest_bit(left)]))
+            borne = borne & ~with_joint.get(place, 0)
+        if borne != 0:
+            found.append(Pile(rows[joints], joints, ordered[lowest_bit(borne)]))
     return found
 
 

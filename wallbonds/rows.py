@@ -36,7 +36,7 @@ def places_near(places, lap):
 
 
 def break_joint(joints, others, lap):
-    return joints & places_near(others, lap) == 0
+    return (joints & places_near(others, lap)) == 0
 
 
 def places_in(places):

@@ -1,7 +1,7 @@
 """The calls. Each answers one list: a number; how many numbers, and these; how many bytes, and these."""
 
 from wallbonds.bonds import read_bond
-from wallbonds.bricks import bricks_counted, lay_bricks, spans
+from wallbonds.bricks import bricks_counted, lay_bricks, number_at, numbers_below, spans
 from wallbonds.checks import cuts_drawn
 from wallbonds.corners import parts_of, read_site, rings_in
 from wallbonds.drawings import drawing_of, pieces_counted
@@ -152,12 +152,19 @@ def brick(i, b, u):
 
 def which(wall, x, y, b, u):
     try:
-        numbers = masonry_of(b, u).numbers
-        if (wall, y, x) not in numbers:
-            raise NotThere()
+        number = number_at(masonry_of(b, u), (wall, y, x))
     except Refusal as refusal:
         return refused(refusal)
-    return answer(numbers[(wall, y, x)], [], [])
+    return answer(number, [], [])
+
+
+def on(i, b, u):
+    try:
+        masonry = masonry_of(b, u)
+        found = one_of(masonry.bricks, i)
+    except Refusal as refusal:
+        return refused(refusal)
+    return answer(0, numbers_below(masonry, found), [])
 
 
 def wall_of(t):
