@@ -188,6 +188,12 @@ class NoFilling(CheckCase):
         self.assert_whole(Bond(1, 2, "SHTBC", ("SSSSSSSS",)), a_wall(8, 1), ["H-H-H-H-"], 0)
         self.assert_fault(Bond(1, 2, "SHTBC", ("SSSSSSSS",)), a_wall(10, 1), ["H-H-H-H-H-"], 0, 0, 3)
 
+    def test_a_pattern_runs_from_left_to_right(self):
+        bond = Bond(1, 0, "", ("SSHSHH",))
+        for row in ("SSHSHH", "SHSHHS", "HSHHSS", "SHHSSH", "HHSSHS", "HSSHSH"):
+            self.assert_whole(bond, a_wall(18, 1), [draw_row(row)], 0)
+            self.assert_fault(bond, a_wall(18, 1), [draw_row(row[::-1])], 0, 0, 3)
+
     def test_a_joint_too_near_to_the_row_below(self):
         self.assert_fault(RUNNING, a_wall(8, 3), ["B-S---B-", "S---S---", "S---S---"], 1, 0, 3)
         self.assert_fault(RUNNING, a_wall(8, 3), ["S---S---", "S---S---", "B-S---B-"], 2, 0, 3)

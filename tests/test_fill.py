@@ -66,6 +66,9 @@ class Courses(FillCase):
         self.assert_drawn(EIGHT, a_wall(24, 1, ends=(2, 1, 0)), draw_row("HSSHSHHS"))
         self.assert_not_filled(EIGHT, a_wall(23, 1), 0)
 
+    def test_a_pattern_runs_from_left_to_right(self):
+        self.assert_drawn(Bond(1, 0, "", ("SSHSHH",)), a_wall(18, 1, ends=(2, 1, 0)), draw_row("HSHHSS"))
+
     def test_most_made_up(self):
         for length, row in ((4, "S"), (5, None), (8, "SS")):
             if row is None:
